@@ -1,0 +1,1 @@
+"""Marklite: a small markup for notes in which every text has one meaning."""
