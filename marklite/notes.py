@@ -1,11 +1,15 @@
 """The calls on one text, as a list of whole numbers, and what they answer."""
 
+from marklite.alone import all_events, all_lines
 from marklite.session import Session
 
 BEGIN = 1
 FEED = 2
 END = 3
 EVENT = 4
+HTML = 5
+ALL = 6
+LINES = 7
 
 
 class UnknownCall(ValueError):
@@ -28,7 +32,7 @@ def answers(calls):
 
 def call_end(calls, at):
     """Give the place behind the call that stands at `at`."""
-    if calls[at] == FEED:
+    if calls[at] in (FEED, ALL, LINES):
         return at + 2 + calls[at + 1]
     if calls[at] == EVENT:
         return at + 2
@@ -45,4 +49,10 @@ def answer(session, call):
         return session.end()
     if call[0] == EVENT:
         return session.event(call[1])
+    if call[0] == HTML:
+        return session.html()
+    if call[0] == ALL:
+        return all_events(call[2:])
+    if call[0] == LINES:
+        return all_lines(call[2:])
     raise UnknownCall("there is no call of this number")

@@ -1,6 +1,8 @@
-"""A session: a text that comes in pieces and, once it has ended, its events."""
+"""A session: a text that comes in pieces and, once it has ended, its events and its HTML."""
 
+from marklite.markup import html_of
 from marklite.meaning import events_of
+from marklite.telling import told_bytes, told_event
 
 LONGEST_TEXT = 16384
 
@@ -41,5 +43,10 @@ class Session:
         """Tell the event at the place, from 0 on; -3: the text hasn't ended, or there is no such event."""
         if not self.ended or place >= len(self.events):
             return [-3]
-        found = self.events[place]
-        return [found.kind, found.number, len(found.data)] + found.data
+        return told_event(self.events[place])
+
+    def html(self):
+        """Tell the text's HTML; -3: the text hasn't ended."""
+        if not self.ended:
+            return [-3]
+        return told_bytes(html_of(self.events))

@@ -3,10 +3,15 @@
 from marklite.notes import answers
 
 LONGEST_TEXT = 16384
+LONGEST_ALONE = 2048
 MOST_CALLS = 400
+
+SIGNS = b"!\"#$%&'()*+,-./:;<=>?@[\\]^_`{|}~"
+LETTERS_AND_DIGITS = b"ABCDEFGHIJKLMNOPQRSTUVWXYZabcdefghijklmnopqrstuvwxyz0123456789"
 
 BEGIN = [1]
 END = [3]
+HTML = [5]
 
 
 def feed(piece):
@@ -15,6 +20,14 @@ def feed(piece):
 
 def event(place):
     return [4, place]
+
+
+def all_of(data):
+    return [6, len(data)] + list(data)
+
+
+def lines_of(data):
+    return [7, len(data)] + list(data)
 
 
 def ask(*calls):
@@ -62,6 +75,57 @@ def as_event(numbers):
 def events_of(text):
     """Give the text's events as (kind, number, bytes)."""
     return events_after(feed(text), END)
+
+
+def html_after(*calls):
+    """Give the HTML of the text that the calls leave; they are to end it."""
+    size, *page = ask(*calls, HTML)[-1]
+    if len(page) != size:
+        raise AssertionError(f"{size} bytes are told, {len(page)} follow")
+    return bytes(page)
+
+
+def html_of(data):
+    return html_after(feed(data), END)
+
+
+def all_events(data):
+    """Give the events that `all` tells of the text, as (kind, number, bytes)."""
+    return as_events(ask(all_of(data))[0])
+
+
+def as_events(numbers):
+    events, at = [], 1
+    while at < len(numbers):
+        behind = at + 3 + numbers[at + 2]
+        events.append(as_event(numbers[at:behind]))
+        at = behind
+    if len(events) != numbers[0]:
+        raise AssertionError(f"{numbers[0]} events are told, {len(events)} follow")
+    return events
+
+
+def told_lines(data):
+    """Give what `lines` tells of the text: (0,), (1, label), (2, level, text), (3, depth, text), (4, text)."""
+    return as_lines(ask(lines_of(data))[0])
+
+
+def as_lines(numbers):
+    lines, at = [], 1
+    while at < len(numbers):
+        # Ahead of the bytes stands what the line is, and of a heading and an item its level or depth.
+        said = numbers[at:at + (2 if numbers[at] in (2, 3) else 1)]
+        at += len(said)
+        if said[0] != 0:
+            size = numbers[at]
+            said.append(bytes(numbers[at + 1:at + 1 + size]))
+            if len(said[-1]) != size:
+                raise AssertionError(f"{size} bytes are told, {len(said[-1])} follow")
+            at += 1 + size
+        lines.append(tuple(said))
+    if len(lines) != numbers[0]:
+        raise AssertionError(f"{numbers[0]} lines are told, {len(lines)} follow")
+    return lines
 
 
 def running(text):
@@ -121,6 +185,15 @@ def items(*depths_and_texts):
 
 def link(address):
     return (15, 0, address)
+
+
+def backslashed(data):
+    """Put a backslash before each sign."""
+    return b"".join(bytes([92, byte]) if byte in SIGNS else bytes([byte]) for byte in data)
+
+
+# What ends what: the kinds of the events that begin something.
+ENDS = {2: 3, 4: 5, 6: 7, 8: 9, 10: 12, 13: 14, 15: 16}
 
 
 class Numbers:

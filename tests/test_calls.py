@@ -1,4 +1,4 @@
-"""The four calls: what they answer, what they refuse, and what is handed in stays as it was."""
+"""begin, feed, end and event: what they answer, what they refuse, and what is handed in stays as it was."""
 
 import unittest
 

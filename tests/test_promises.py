@@ -2,15 +2,11 @@
 
 import unittest
 
-from tests.helper import BEGIN, END, LONGEST_TEXT, Numbers, P, P_END, ask, event, events_after, events_of, feed
-from tests.helper import made_text, made_texts, text
+from tests.helper import BEGIN, END, ENDS, LETTERS_AND_DIGITS, LONGEST_TEXT, Numbers, P, P_END, SIGNS, ask, backslashed
+from tests.helper import event, events_after, events_of, feed, made_text, made_texts, text
 
-SIGNS = b"!\"#$%&'()*+,-./:;<=>?@[\\]^_`{|}~"
 BLANKS = b" \t\r"
-LETTERS_AND_DIGITS = b"ABCDEFGHIJKLMNOPQRSTUVWXYZabcdefghijklmnopqrstuvwxyz0123456789"
 
-# What ends what: the kinds of the events that begin something.
-ENDS = {2: 3, 4: 5, 6: 7, 8: 9, 10: 12, 13: 14, 15: 16}
 # What may stand at once in what; None is the text itself.
 INSIDE = {
     None: (2, 4, 6, 10), 2: (0, 1, 13, 15), 4: (0, 1, 13, 15), 6: (8,), 8: (0, 1, 13, 15, 6), 10: (11,),
@@ -139,17 +135,17 @@ class TestOneParagraph(unittest.TestCase):
         for _ in range(1500):
             data = self.made(numbers, without if numbers.below(3) == 0 else SIGNS + b"ab7\x00\xff")
             if data:
-                self.assert_one_paragraph(self.backslashed(data), data)
+                self.assert_one_paragraph(backslashed(data), data)
 
     def test_a_backslash_before_what_would_have_a_meaning(self):
         for data in (b"#", b"######", b"-", b"```", b"```a", b"`a`", b"*a*", b"[a](b)", b"\\", b"\\\\*", b"a\\"):
-            self.assert_one_paragraph(self.backslashed(data), data)
+            self.assert_one_paragraph(backslashed(data), data)
 
     def test_every_byte_alone(self):
         for byte in range(256):
             data = bytes([byte])
             if byte not in b" \t\r\n":
-                self.assert_one_paragraph(self.backslashed(data), data)
+                self.assert_one_paragraph(backslashed(data), data)
 
     def test_the_longest(self):
         self.assert_one_paragraph(b"\\*" * (LONGEST_TEXT // 2), b"*" * (LONGEST_TEXT // 2))
@@ -157,9 +153,6 @@ class TestOneParagraph(unittest.TestCase):
 
     def made(self, numbers, some):
         return bytes(numbers.one_of(some) for _ in range(numbers.below(30)))
-
-    def backslashed(self, data):
-        return b"".join(bytes([92, byte]) if byte in SIGNS else bytes([byte]) for byte in data)
 
     def assert_one_paragraph(self, data, told):
         self.assertEqual(events_of(data), [P, text(told), P_END], data)

@@ -2,9 +2,8 @@
 
 import unittest
 
-from tests.helper import EM, EM_END, LINK_END, LONGEST_TEXT, code, link, running, text
+from tests.helper import EM, EM_END, LINK_END, LONGEST_TEXT, SIGNS, code, link, running, text
 
-SIGNS = b"!\"#$%&'()*+,-./:;<=>?@[\\]^_`{|}~"
 BLANKS = (b" ", b"\t", b"\r")
 
 
